@@ -1,0 +1,154 @@
+package enclose_test
+
+import (
+	"errors"
+	"math"
+	"strings"
+	"testing"
+
+	"enclose/enclose"
+	"enclose/plain"
+)
+
+func packageErrors() []error {
+	return []error{enclose.ErrFloat, enclose.ErrOrder, enclose.ErrRange, enclose.ErrZero, enclose.ErrNegative, enclose.ErrEmpty, enclose.ErrName, enclose.ErrShape, enclose.ErrSure}
+}
+
+func TestErrorsDiffer(t *testing.T) {
+	texts := map[string]int{}
+	for i, e := range packageErrors() {
+		texts[e.Error()]++
+		for k, f := range packageErrors() {
+			if errors.Is(e, f) != (i == k) {
+				t.Errorf("errors %d and %d", i, k)
+			}
+		}
+	}
+	if len(texts) != len(packageErrors()) || !plain.Different() {
+		t.Errorf("the errors are not told apart: %v", texts)
+	}
+}
+
+func TestOpError(t *testing.T) {
+	for _, inner := range packageErrors() {
+		var e error = &enclose.OpError{Op: "+", Err: inner}
+		if errors.Unwrap(e) != inner || !errors.Is(e, inner) {
+			t.Errorf("an OpError's Unwrap: %v", errors.Unwrap(e))
+		}
+		if s := e.Error(); !strings.Contains(s, "+") || !strings.Contains(s, inner.Error()) {
+			t.Errorf("an OpError's text: %q", s)
+		}
+	}
+}
+
+func TestOpErrorOfNothing(t *testing.T) {
+	var none *enclose.OpError
+	for _, e := range []*enclose.OpError{none, {}, {Op: "+"}, {Op: "+", Err: none}} {
+		_ = e.Error()
+	}
+	if none.Unwrap() != nil || (&enclose.OpError{Op: "+"}).Unwrap() != nil {
+		t.Errorf("P1: an OpError of nothing has something in it")
+	}
+}
+
+// record is all that a call by package plain answers.
+type record struct {
+	box  plain.Box
+	code int
+	op   string
+}
+
+// everyCall asks all calls of two boxes and of two names.
+func everyCall(x, y plain.Box) []record {
+	var l []record
+	add := func(b plain.Box, n int, op string) { l = append(l, record{b, n, op}) }
+	b, n := plain.Make(x)
+	add(b, n, "")
+	for k := range 8 {
+		add(plain.Op(k, x, y))
+	}
+	for _, name := range []string{"+", "-", "*", "/", "hull", "meet", "", "sqrt", "add"} {
+		add(plain.Apply(name, x, y))
+	}
+	for k := range 6 {
+		b, n := plain.Exact(k, int64(x.Lo))
+		add(b, n, "")
+	}
+	return l
+}
+
+// checkRecord wants no unknown error, nothing beside an error, and else an interval as the document has it.
+func checkRecord(t *testing.T, r record) {
+	t.Helper()
+	if r.code > 7 {
+		t.Errorf("P1: an error that the document does not have here: %+v", r)
+	}
+	if r.code != 0 && r.box != (plain.Box{}) {
+		t.Errorf("P1: an answer beside an error: %+v", r)
+	}
+	lo, hi := math.Float64frombits(r.box.Lo), math.Float64frombits(r.box.Hi)
+	again, err := enclose.Make(lo, hi)
+	if err != nil || !hasEnds(again, lo, hi) {
+		t.Errorf("P1: an answer that is no interval: %+v, %v", r, err)
+	}
+}
+
+func TestEveryCall(t *testing.T) {
+	var l []uint64
+	for _, x := range append(append(notPlain(), edgeFloats()...), minusZero) {
+		l = append(l, math.Float64bits(x))
+	}
+	n := &numbers{19}
+	for range 100 {
+		l = append(l, n.next())
+	}
+	pick := func() plain.Box { return plain.Box{Lo: l[n.under(len(l))], Hi: l[n.under(len(l))]} }
+	type asked struct {
+		x, y   plain.Box
+		answer []record
+	}
+	var all []asked
+	for range 5000 {
+		x, y := pick(), pick()
+		all = append(all, asked{x, y, everyCall(x, y)})
+	}
+	for i := len(all) - 1; i >= 0; i-- { // in another order: nothing may be left of the calls before
+		for k, r := range everyCall(all[i].x, all[i].y) {
+			checkRecord(t, r)
+			if r != all[i].answer[k] {
+				t.Errorf("P1: call %d of %x, %x: %+v, but before: %+v", k, all[i].x, all[i].y, r, all[i].answer[k])
+			}
+		}
+	}
+}
+
+func TestArgumentsAreOnlyRead(t *testing.T) {
+	n := &numbers{23}
+	for range 1000 {
+		a, b := n.interval(t), n.interval(t)
+		keptA, keptB := a, b
+		for _, m := range methods() {
+			m.do(a, b)
+		}
+		a.Sqrt()
+		a.Neg()
+		a.Hull(b)
+		a.Meet(b)
+		enclose.Apply("*", a, b)
+		if a != keptA || b != keptB {
+			t.Fatalf("P1: %x, %x have become %x, %x", keptA, keptB, a, b)
+		}
+	}
+}
+
+func TestErrorsAreNotShared(t *testing.T) {
+	one := enclose.Interval{}
+	_, first := one.Div(one)
+	first.(*enclose.OpError).Op = "changed by the caller"
+	if _, second := one.Div(one); !isOpError(second, "/", enclose.ErrZero) {
+		t.Errorf("P1: an error has been kept from call to call: %v", second)
+	}
+	if _, err := enclose.Apply("add", one, one); unwrapped(err) != enclose.ErrName {
+		t.Errorf("P5: %v", err)
+	}
+}
