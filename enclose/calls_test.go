@@ -3,6 +3,7 @@ package enclose_test
 import (
 	"errors"
 	"math"
+	"slices"
 	"strings"
 	"testing"
 
@@ -58,7 +59,7 @@ type record struct {
 	op   string
 }
 
-// everyCall asks all calls of two boxes and of two names.
+// everyCall asks all calls of two boxes; their ends are the numbers of polynomials too.
 func everyCall(x, y plain.Box) []record {
 	var l []record
 	add := func(b plain.Box, n int, op string) { l = append(l, record{b, n, op}) }
@@ -74,13 +75,23 @@ func everyCall(x, y plain.Box) []record {
 		b, n := plain.Exact(k, int64(x.Lo))
 		add(b, n, "")
 	}
+	for _, p := range [][]uint64{nil, {x.Lo}, {x.Lo, y.Hi}, {y.Lo, x.Hi, x.Lo, y.Hi}, make([]uint64, 10)} {
+		add(plain.Eval(p, y))
+		for _, depth := range []int{-1, 0, 2, 9} {
+			all, some, n := plain.Roots(p, y, depth, 2)
+			add(plain.Box{}, n, "")
+			for _, b := range append(all, some...) {
+				add(b, 0, "")
+			}
+		}
+	}
 	return l
 }
 
 // checkRecord wants no unknown error, nothing beside an error, and else an interval as the document has it.
 func checkRecord(t *testing.T, r record) {
 	t.Helper()
-	if r.code > 7 {
+	if r.code > 8 {
 		t.Errorf("P1: an error that the document does not have here: %+v", r)
 	}
 	if r.code != 0 && r.box != (plain.Box{}) {
@@ -113,11 +124,12 @@ func TestEveryCall(t *testing.T) {
 		all = append(all, asked{x, y, everyCall(x, y)})
 	}
 	for i := len(all) - 1; i >= 0; i-- { // in another order: nothing may be left of the calls before
-		for k, r := range everyCall(all[i].x, all[i].y) {
+		again := everyCall(all[i].x, all[i].y)
+		for _, r := range again {
 			checkRecord(t, r)
-			if r != all[i].answer[k] {
-				t.Errorf("P1: call %d of %x, %x: %+v, but before: %+v", k, all[i].x, all[i].y, r, all[i].answer[k])
-			}
+		}
+		if !slices.Equal(again, all[i].answer) {
+			t.Errorf("P1: of %x, %x: %+v, but before: %+v", all[i].x, all[i].y, again, all[i].answer)
 		}
 	}
 }

@@ -21,3 +21,25 @@ func Example() {
 	// 0x1.5555555555555p+00 0x1.5555555555556p+00 <nil>
 	// /: division by what holds 0 true
 }
+
+func ExampleEval() {
+	x, _ := enclose.Make(-1, 2)
+	r, err := enclose.Eval([]float64{-2, 0, 1}, x) // x * x - 2
+	fmt.Println(r.Lo(), r.Hi(), err)
+	// Output:
+	// -4 2 <nil>
+}
+
+func ExampleRoots() {
+	x, _ := enclose.Make(0, 2)
+	pieces, err := enclose.Roots([]float64{-2, 0, 1}, x, 3)
+	if err != nil {
+		fmt.Println(err)
+		return
+	}
+	for piece := range pieces {
+		fmt.Println(piece.Lo(), piece.Hi())
+	}
+	// Output:
+	// 1.25 1.5
+}

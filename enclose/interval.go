@@ -45,6 +45,12 @@ func (a Interval) Meet(b Interval) (Interval, error) {
 
 func (a Interval) holdsZero() bool { return a.lo <= 0 && a.hi >= 0 }
 
+// middle: plain floats are halved without a remainder, so that only the sum is rounded. It may be an end, or no plain float.
+func (a Interval) middle() float64 { return a.lo/2 + a.hi/2 }
+
+// point holds x alone; x is plain.
+func point(x float64) Interval { return Interval{oneZero(x), oneZero(x)} }
+
 // isPlain is false for NaN too: no comparison with it holds.
 func isPlain(x float64) bool {
 	const least, greatest = 0x1p-900, 0x1p+900
