@@ -85,13 +85,27 @@ func everyCall(x, y plain.Box) []record {
 			}
 		}
 	}
+	for wide := range 3 {
+		for _, a := range [][]plain.Box{nil, {x}, {x, y}, {x, y, y, x}, {y, x, x, y}} {
+			for _, right := range [][]plain.Box{nil, {y}, {x, y}} {
+				answer, n := plain.Solve(a, wide, right)
+				add(plain.Box{}, n, "")
+				if n != 0 && answer != nil {
+					add(plain.Box{Lo: 1}, n, "") // checkRecord does not let this pass
+				}
+				for _, b := range answer {
+					add(b, 0, "")
+				}
+			}
+		}
+	}
 	return l
 }
 
 // checkRecord wants no unknown error, nothing beside an error, and else an interval as the document has it.
 func checkRecord(t *testing.T, r record) {
 	t.Helper()
-	if r.code > 8 {
+	if r.code > 9 {
 		t.Errorf("P1: an error that the document does not have here: %+v", r)
 	}
 	if r.code != 0 && r.box != (plain.Box{}) {
@@ -106,7 +120,7 @@ func checkRecord(t *testing.T, r record) {
 
 func TestEveryCall(t *testing.T) {
 	var l []uint64
-	for _, x := range append(append(notPlain(), edgeFloats()...), minusZero) {
+	for _, x := range slices.Concat(notPlain(), edgeFloats(), []float64{minusZero, -0x1p30, -0x1p-30, 0x1p-30, 3, 4, 0x1p30}) {
 		l = append(l, math.Float64bits(x))
 	}
 	n := &numbers{19}

@@ -43,3 +43,25 @@ func ExampleRoots() {
 	// Output:
 	// 1.25 1.5
 }
+
+func ExampleSolve() {
+	one, _ := enclose.Exact(1)
+	four, _ := enclose.Exact(4)
+	six, _ := enclose.Exact(6)
+	nine, _ := enclose.Exact(9)
+	a := [][]enclose.Interval{{four, one}, {one, four}}
+	l, err := enclose.Solve(a, []enclose.Interval{six, nine})
+	for i, x := range l {
+		truth := float64(i + 1)
+		fmt.Println(x.Lo() <= truth && truth <= x.Hi(), x.Hi()-x.Lo() < 1e-9)
+	}
+	fmt.Println(err)
+
+	_, err = enclose.Solve([][]enclose.Interval{{one, one}, {one, one}}, []enclose.Interval{six, nine})
+	fmt.Println(err == enclose.ErrSure)
+	// Output:
+	// true true
+	// true true
+	// <nil>
+	// true
+}

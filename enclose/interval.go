@@ -45,6 +45,17 @@ func (a Interval) Meet(b Interval) (Interval, error) {
 
 func (a Interval) holdsZero() bool { return a.lo <= 0 && a.hi >= 0 }
 
+// leastAmount is the least amount of what a holds.
+func (a Interval) leastAmount() float64 {
+	if a.holdsZero() {
+		return 0
+	}
+	return min(math.Abs(a.lo), math.Abs(a.hi))
+}
+
+// greatestAmount is the greatest amount of what a holds.
+func (a Interval) greatestAmount() float64 { return max(math.Abs(a.lo), math.Abs(a.hi)) }
+
 // middle: plain floats are halved without a remainder, so that only the sum is rounded. It may be an end, or no plain float.
 func (a Interval) middle() float64 { return a.lo/2 + a.hi/2 }
 
